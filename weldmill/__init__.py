@@ -1,0 +1,1 @@
+"""Weldmill: from pieces that name one another to one image of numbers."""
