@@ -313,8 +313,8 @@ class FirstLineAtFault(unittest.TestCase):
         for rest in ("s code 1", "s data 1", "s data 2", "s data 4", "s data 8", "code code 1", "a0 data 0x4"):
             self.assertIsNone(line_at_fault("piece p\nsection " + rest))
         for rest in ["", "s", "s code", "s data", "code 1", "s 1 code", "s code 1 1", "s code 2", "s code 0",
-                     "s data 0", "s data 3", "s data 5", "s data 6", "s data 7", "s data 9", "s data 16", "s data -1", "s code -1",
-                     "s Code 1", "s text 1", "s code a", "s maybe 1", "s code true"]:
+                     "s data 0", "s data 3", "s data 5", "s data 6", "s data 7", "s data 9", "s data 16",
+                     "s data -1", "s code -1", "s Code 1", "s text 1", "s code a", "s maybe 1", "s code true"]:
             with self.subTest(rest):
                 self.assertEqual(line_at_fault("piece p\nsection " + rest), 2)
         for name in NO_NAMES:
