@@ -121,7 +121,7 @@ class Written(unittest.TestCase):
             self.assertEqual(write(piece), "piece p\nsection s data 1\ncell " + str(number) + "\n")
 
     def test_what_was_read_is_written_the_least_way(self):
-        text = " piece  p ;x\n\nsection s data 0x8\ncell -0x0f\n;y\ncell -0\nsymbol b maybe\nsymbol a common 0b11"
+        text = " piece  p ;x\n\nsection s data 0x8\ncell -0x0f\n;y\ncell -0b0\nsymbol b maybe\nsymbol a common 0b11"
         self.assertEqual(write(read(text)), "piece p\nsection s data 8\ncell -15\ncell 0\n"
                                             "symbol a common 3\nsymbol b maybe\n")
 
@@ -194,10 +194,30 @@ class ReadBack(unittest.TestCase):
 
 class Numbers(unittest.TestCase):
     def test_in_tens(self):
-        for word, number in (("0", 0), ("7", 7), ("-7", -7), ("10", 10), ("-0", 0), ("000", 0), ("-000", 0),
-                             ("007", 7), ("-0099", -99), ("1000000000", 10 ** 9), ("-1000000000", -10 ** 9),
-                             ("08", 8), ("010", 10)):
+        for word, number in (("0", 0), ("7", 7), ("-7", -7), ("10", 10), ("-10", -10), ("100", 100), ("909", 909),
+                             ("-99", -99), ("1000000000", 10 ** 9), ("-1000000000", -10 ** 9), ("80", 80)):
             self.assertEqual(number_read(word), number)
+
+    def test_in_tens_no_nought_ahead(self):
+        for word in ("-0", "00", "-00", "000", "-000", "01", "-01", "007", "-0099", "08", "010", "0999999999",
+                     "-01000000000", "00x1", "-00b1", "000b1"):
+            with self.subTest(word):
+                self.assertIs(number_refused(word), True)
+
+    def test_in_tens_no_nought_ahead_wherever_a_number_stands(self):
+        head = "piece p\nsection s code 1\nhalt\nsection t data 1\nroom 3\n"
+        for word in ("01", "00", "-0", "-00", "-01"):
+            for row in ("section u data " + word, "section u code " + word, "cell " + word, "at n " + word,
+                        "room " + word, "symbol a strong " + word + " 0", "symbol a weak 0 " + word,
+                        "symbol a local 1 " + word, "symbol a common " + word):
+                with self.subTest(row):
+                    self.assertEqual(line_at_fault(head + row), 6)
+            for row in ("set " + word + " 1", "set 1 " + word, "copy " + word + " 1", "copy 1 " + word,
+                        "load " + word + " 1 1", "load 1 " + word + " 1", "store 1 1 " + word,
+                        "place " + word + " n 1", "place 1 n " + word, "when " + word + " n", "enter " + word,
+                        "tell " + word):
+                with self.subTest(row):
+                    self.assertEqual(line_at_fault(head[:31] + row), 4)
 
     def test_in_sixteens(self):
         for word, number in (("0x0", 0), ("0xf", 15), ("0x10", 16), ("-0x1f", -31), ("0xabcdef", 0xabcdef),
@@ -213,7 +233,7 @@ class Numbers(unittest.TestCase):
 
     def test_just_beyond_the_bounds(self):
         for word in ("1000000001", "-1000000001", "0x3b9aca01", "-0x3b9aca01", "0b111011100110101100101000000001",
-                     "-0b111011100110101100101000000001", "001000000001", "10000000000", "1" + "0" * 59):
+                     "-0b111011100110101100101000000001", "0x01000000001", "10000000000", "1" + "0" * 59):
             with self.subTest(word):
                 self.assertIs(number_refused(word), True)
 
@@ -221,12 +241,14 @@ class Numbers(unittest.TestCase):
         for many in (100, 1000, 4299, 4300, 4301, 5000, 20000):
             noughts = "0" * many
             for sign, times in (("", 1), ("-", -1)):
-                for base in ("", "0x", "0b"):
+                for base in ("0x", "0b"):
                     self.assertEqual(number_read(sign + base + noughts), 0)
                     self.assertEqual(number_read(sign + base + noughts + "1"), times)
+                for base in ("", "0x", "0b"):
                     for figures in ("1" + noughts, "1" * many, noughts + "1" + noughts, noughts + "1" * many):
                         self.assertIs(number_refused(sign + base + figures), True)
-                self.assertEqual(number_read(sign + noughts + "1000000000"), times * 10 ** 9)
+                self.assertIs(number_refused(sign + noughts), True)
+                self.assertIs(number_refused(sign + noughts + "1"), True)
                 self.assertEqual(number_read(sign + "0x" + noughts + "3b9aca00"), times * 10 ** 9)
                 self.assertIs(number_refused(sign + noughts + "1000000001"), True)
                 self.assertIs(number_refused(sign + "9" * many), True)
@@ -240,7 +262,7 @@ class Numbers(unittest.TestCase):
                 self.assertIs(number_refused(word), True)
 
     def test_everywhere_in_every_base(self):
-        text = ("piece p\nsection s code 0b1\nset 0x7 -0x1\nload 0b111 00 -0b11\nplace 03 n 0x63\n"
+        text = ("piece p\nsection s code 0b1\nset 0x7 -0x1\nload 0b111 0x00 -0b11\nplace 0b011 n 0x63\n"
                 "section d data 0x08\nroom 0b11\nsymbol a strong 0b1 0x3\nsymbol b common 0x1f4\n")
         self.assertEqual(read(text), (
             "p",
@@ -366,7 +388,9 @@ class FirstLineAtFault(unittest.TestCase):
             for word, form in words.items():
                 parts = [word] + ["a" if bounds is None else "1" for bounds in form]
                 for k, bounds in enumerate(form):
-                    right = ["a", "z" * 16, "x0"] if bounds is None else [str(bounds[0]), str(bounds[1]), "00", "-0"]
+                    right = ["a", "z" * 16, "x0"]
+                    if bounds is not None:
+                        right = [str(bounds[0]), str(bounds[1]), "0", "0x00", "-0b0"]
                     wrong = NO_NAMES if bounds is None else NO_NUMBERS + [str(bounds[0] - 1), str(bounds[1] + 1)]
                     for row, line in [(text, None) for text in right] + [(text, 3) for text in wrong]:
                         told = head + " ".join(parts[:k + 1] + [row] + parts[k + 2:])
@@ -380,7 +404,7 @@ class FirstLineAtFault(unittest.TestCase):
     def test_symbol_lines(self):
         head = "piece p\nsection s code 1\nhalt\nhalt\nsection d data 1\nroom 4\nsection e data 1\n"
         for rest in ("a local 0 0", "a strong 0 2", "a weak 1 4", "a local 2 0", "a common 1", "a common 500",
-                     "a maybe", "a common 0x1", "a weak 0b1 04", "maybe maybe"):
+                     "a maybe", "a common 0x1", "a weak 0b1 0x04", "maybe maybe"):
             with self.subTest(rest):
                 self.assertIsNone(line_at_fault(head + "symbol " + rest))
         for rest in ["", "a", "a local", "a local 0", "a local 0 0 0", "a strong", "a strong 1", "a strong 0 0 0",
@@ -451,9 +475,11 @@ class Drawn:
         return (self.name(), tuple(sections), tuple([self.symbol(name, sections) for name in names]))
 
     def number(self, number):
-        sign = "-" if number < 0 or number == 0 and self.chance.random() < 0.2 else ""
         base, figures = self.chance.choice([("", str(abs(number))), ("0x", format(abs(number), "x")),
                                             ("0b", format(abs(number), "b"))])
+        if base == "":
+            return str(number)
+        sign = "-" if number < 0 or number == 0 and self.chance.random() < 0.2 else ""
         return sign + base + "0" * self.chance.choice([0, 0, 1, 5, 5000]) + figures
 
     def noisy(self, piece):

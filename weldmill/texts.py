@@ -71,6 +71,9 @@ def number_of(word):
         base = 2
     if base != 10:
         figures = figures[2:]
+    elif figures.startswith("0") and word != "0":
+        # Noughts ahead and "-0" are for numbers of sixteen and two alone.
+        return None
     if not figures or not all([figure in FIGURES[base] for figure in figures]):
         return None
     # Python itself refuses to read thousands of figures, so they are counted first.
