@@ -148,16 +148,21 @@ def is_piece(thing):
     return names == sorted(set(names))
 
 
-def asked(piece):
-    """The names that the piece asks, rising, each once."""
-    _, sections, symbols = piece
-    names = set()
-    for section in sections:
+def namings(piece):
+    """The items of the piece that name something, each with the name, in order."""
+    rows = []
+    for section in piece[1]:
         for item in section[3]:
             part = NAMED_PART.get(item[0])
             if part is not None:
-                names.add(item[part])
-    for name, binding, _ in symbols:
+                rows.append((item, item[part]))
+    return rows
+
+
+def asked(piece):
+    """The names that the piece asks, rising, each once."""
+    names = set([name for _, name in namings(piece)])
+    for name, binding, _ in piece[2]:
         if binding == "local":
             names.discard(name)
     return sorted(names)
