@@ -207,7 +207,8 @@ def does_load(run, r, s, k):
     fault = run.fault_at(place, k)
     if fault is not None:
         return fault
-    return run.gets(r, run.cells_of(place[1])[place[2] + k])
+    _, holder, offset = place
+    return run.gets(r, run.cells_of(holder)[offset + k])
 
 
 def does_store(run, r, s, k):
@@ -216,7 +217,9 @@ def does_store(run, r, s, k):
     fault = run.fault_at(place, k)
     if fault is not None:
         return fault
-    run.cells_of(place[1])[place[2] + k] = run.registers[r]
+    _, holder, offset = place
+    cells = run.cells_of(holder)
+    cells[offset + k] = run.registers[r]
     return run.goes_on()
 
 
