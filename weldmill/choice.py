@@ -2,8 +2,11 @@
 
 from weldmill.alike import are_alike
 from weldmill.errors import Doubled, Missing, Skewed, WeldError
-from weldmill.pieces import asked, namings
-from weldmill.places import is_in_code
+from weldmill.pieces import NAMED_PART, asked, namings
+from weldmill.places import is_in_code, place_of
+
+# The piece of a Missing name that no piece asks, but a link: its start or one that it keeps.
+NO_PIECE = -1
 
 # Which part of an item is the number that it adds to its name's place, where it adds one.
 MORE_PART = {"place": 3, "at": 2}
@@ -35,6 +38,21 @@ def stands_for(pieces, choice, piece, name):
         if own == name and binding == "local":
             return ("at", piece) + where
     return choice[name]
+
+
+def value_named(pieces, choice, piece, item):
+    """The place, as much ahead as the item tells, of the name in the item of this piece; of none the number."""
+    name = item[NAMED_PART[item[0]]]
+    more = item[MORE_PART[item[0]]] if item[0] in MORE_PART else 0
+    return place_of(stands_for(pieces, choice, piece, name), name, more)
+
+
+def start_place(pieces, choice, start):
+    """The place in code at which a run begins; Missing where the start's name stands for none."""
+    told = choice.get(start, ("none",))
+    if told[0] != "at" or not is_in_code(pieces, told[1:3]):
+        raise Missing(start, NO_PIECE)
+    return place_of(told, start, 0)
 
 
 def defines(symbol):

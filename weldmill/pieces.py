@@ -148,15 +148,19 @@ def is_piece(thing):
     return names == sorted(set(names))
 
 
+def named_by(section):
+    """The items of the section that name something, each with the name, in order."""
+    rows = []
+    for item in section[3]:
+        part = NAMED_PART.get(item[0])
+        if part is not None:
+            rows.append((item, item[part]))
+    return rows
+
+
 def namings(piece):
     """The items of the piece that name something, each with the name, in order."""
-    rows = []
-    for section in piece[1]:
-        for item in section[3]:
-            part = NAMED_PART.get(item[0])
-            if part is not None:
-                rows.append((item, item[part]))
-    return rows
+    return [row for section in piece[1] for row in named_by(section)]
 
 
 def asked(piece):
