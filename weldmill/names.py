@@ -1,11 +1,10 @@
 """A run by names: what pieces do step by step, without addresses."""
 
-from weldmill.choice import stands_for
-from weldmill.places import data_holders, is_in_code, place_of
+from weldmill.choice import stands_for, value_named
+from weldmill.places import data_holders, is_in_code, is_number, place_of, section_of
+from weldmill.runs import PLAIN_DEEDS, Steps, bounded
 
 MOST_STEPS = 3000
-REGISTERS = 8
-MOST_KEPT = 200
 GREATEST_NUMBER = 10 ** 18
 GREATEST_OFFSET = 10 ** 9
 
@@ -25,81 +24,32 @@ def state_by_names(pieces, choice, start, *, most=MOST_STEPS):
     return run.at, run.registers, run.pile, memory
 
 
-def is_number(value):
-    """Whether the value is a whole number, no place."""
-    return isinstance(value, int)
-
-
-def bounded(number):
-    """The number; "great" where it is beyond the bounds."""
-    return number if abs(number) <= GREATEST_NUMBER else "great"
-
-
 def moved(place, by):
     """The place so much ahead; "great" where its offset is beyond the bounds."""
     _, holder, offset = place
     return ("at", holder, offset + by) if abs(offset + by) <= GREATEST_OFFSET else "great"
 
 
-class Run:
-    """A run by names, as far as it has come; a fault is told by its word, a text, in the place of a value."""
+class Run(Steps):
+    """A run by names, as far as it has come."""
 
     def __init__(self, pieces, choice, start):
+        super().__init__(place_of(choice[start], start, 0))
         self.pieces = pieces
         self.choice = choice
-        self.at = place_of(choice[start], start, 0)
-        self.registers = [0] * REGISTERS
-        self.pile = []
         # The cells of those holders alone that were asked for.
         self.memory = {}
-        self.tells = []
-        self.steps = 0
-        self.how = "on"
-
-    def goes(self, most):
-        """Does at most so many steps."""
-        while self.how == "on" and self.steps < most:
-            self.how = self.does_item()
-            if self.how in ("on", "halt"):
-                self.steps += 1
 
     def does_item(self):
         """Does the item at hand, whole or, where it faults, not at all; "on", "halt" or the fault."""
-        _, (piece, section), offset = self.at
-        items = self.pieces[piece][1][section][3]
+        _, holder, offset = self.at
+        items = section_of(self.pieces, holder)[3]
         if offset >= len(items):
             return "end"
+        self.behind = ("at", holder, offset + 1)
         word, *parts = items[offset]
-        deed = DEEDS[word]
+        deed = DEEDS[word] if word in DEEDS else PLAIN_DEEDS[word]
         return deed(self, *parts)
-
-    def behind(self):
-        """The place of the next item."""
-        _, holder, offset = self.at
-        return ("at", holder, offset + 1)
-
-    def goes_to(self, place):
-        """Goes on at the place."""
-        self.at = place
-        return "on"
-
-    def goes_on(self):
-        """Goes on at the next item."""
-        return self.goes_to(self.behind())
-
-    def gets(self, r, answer):
-        """Gives the register a value and goes on to the next item; a fault is handed on."""
-        if isinstance(answer, str):
-            return answer
-        self.registers[r] = answer
-        return self.goes_on()
-
-    def enters(self, place):
-        """Keeps the place of the next item and goes on at the place."""
-        if len(self.pile) == MOST_KEPT:
-            return "deep"
-        self.pile.append(self.behind())
-        return self.goes_to(place)
 
     def meaning(self, name, more):
         """What the name stands for in the piece at hand, so much more in its offset."""
@@ -138,15 +88,14 @@ def first_cells(pieces, choice, holder):
         elif item[0] == "cell":
             cells.append(item[1])
         else:
-            _, name, more = item
-            cells.append(place_of(stands_for(pieces, choice, piece, name), name, more))
+            cells.append(value_named(pieces, choice, piece, item))
     return cells
 
 
 def sum_of(run, one, other):
     """The sum of two values, or the fault."""
     if is_number(one) and is_number(other):
-        return bounded(one + other)
+        return bounded(one + other, GREATEST_NUMBER)
     place, by = (other, one) if is_number(one) else (one, other)
     if not run.is_data(place) or not is_number(by):
         return "value"
@@ -156,7 +105,7 @@ def sum_of(run, one, other):
 def rest_of(run, one, other):
     """One value less the other, or the fault."""
     if is_number(one) and is_number(other):
-        return bounded(one - other)
+        return bounded(one - other, GREATEST_NUMBER)
     if not run.is_data(one):
         return "value"
     if is_number(other):
@@ -168,17 +117,7 @@ def product_of(one, other):
     """The product of two values, or the fault."""
     if not is_number(one) or not is_number(other):
         return "value"
-    return bounded(one * other)
-
-
-def does_set(run, r, n):
-    """Register r gets the number."""
-    return run.gets(r, n)
-
-
-def does_copy(run, r, s):
-    """Register r gets what s holds."""
-    return run.gets(r, run.registers[s])
+    return bounded(one * other, GREATEST_NUMBER)
 
 
 def does_add(run, r, s):
@@ -251,25 +190,7 @@ def does_when(run, r, name):
     return run.goes_on() if value == 0 else does_jump(run, name)
 
 
-def does_back(run):
-    """Goes on at the place kept last."""
-    return run.goes_to(run.pile.pop()) if run.pile else "empty"
-
-
-def does_tell(run, r):
-    """Tells what r holds."""
-    run.tells.append(run.registers[r])
-    return run.goes_on()
-
-
-def does_halt(run):
-    """Stays where it is."""
-    return "halt"
-
-
 DEEDS = {
-    "set": does_set,
-    "copy": does_copy,
     "add": does_add,
     "less": does_less,
     "times": does_times,
@@ -280,7 +201,4 @@ DEEDS = {
     "jump": does_jump,
     "when": does_when,
     "enter": does_enter,
-    "back": does_back,
-    "tell": does_tell,
-    "halt": does_halt,
 }
